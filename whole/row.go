@@ -213,7 +213,7 @@ func (r row) splitOff(b row) uint64 {
 func (r row) guess(b row) uint64 {
 	n := len(b)
 	high, next := b[n-1], b[n-2]
-	if r[n] >= high { // they are equal: the quotient is more than 2^64 - 2, and Div64 would overflow
+	if r[n] >= high { // they are equal: the word is 2^64 - 2 at least, and Div64 would overflow
 		return 1<<64 - 1
 	}
 	word, rest := bits.Div64(r[n], r[n-1], high)

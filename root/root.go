@@ -14,9 +14,12 @@ const maxPlaces = 30
 
 // Root is a real root of a polynomial. Roots makes them.
 type Root struct {
-	span            // where it is; if it is a fraction, both ends are that
-	free  poly.Poly // has it once, no other root in the span, and, if it is no fraction, none at the span's ends; its coefficients are whole, the highest one above 0
-	sign  int       // of free at the span's high end
+	span // where it is; both ends are the root itself, if it is a fraction
+
+	// free has the root once, and no other one in the span. Its coefficients are whole, the highest one is above 0.
+	// If the root is no fraction, free is not 0 at the span's ends: signs are looked at there.
+	free  poly.Poly
+	sign  int // of free at the span's high end
 	times int
 }
 
@@ -42,8 +45,8 @@ func rootsOf(part parts.Part) []Root {
 	return l
 }
 
-// settled is the root in a span that has at most one of the fractions that can be roots: in their least numbers the one below divides the highest coefficient.
-// So it is known whether the root is a fraction.
+// settled is the root, of which it is known whether it is a fraction. The fractions that can be roots have, in their
+// least numbers, one below that divides the highest coefficient: in a span that is small enough there is at most one.
 func (r Root) settled() Root {
 	lead := r.free.Coef(r.free.Degree()).Num()
 	for r.severalParts(lead) || signAt(r.free, r.low) == 0 {
@@ -51,7 +54,7 @@ func (r Root) settled() Root {
 	}
 	x, _ := ratio.Of(partsUpTo(r.high, lead), lead)
 	if x.Order(r.low) > 0 && signAt(r.free, x) == 0 {
-		r.low, r.high = x, x
+		r.low, r.high, r.sign = x, x, 0
 	}
 	return r
 }
@@ -66,7 +69,7 @@ func (r Root) cut(x ratio.Rat) Root {
 	if !r.within(x) {
 		return r
 	}
-	// From the root on up to the high end the sign is the same. As long as the root is not settled, x may be it, or that end.
+	// From the root on the sign is the same up to the high end; both x and that end may be the root, until it is settled.
 	if s := signAt(r.free, x); s == 0 || s == r.sign {
 		r.high, r.sign = x, s
 	} else {
@@ -113,7 +116,7 @@ func (r Root) Order(s Root) int {
 	return r.Sign(s.free) * s.sign
 }
 
-// side tells whether a root is below, equal to or above x: all that is left of its span is there.
+// side tells whether a root is below, equal to or above x: what is left of its span is all there.
 func (r Root) side(x ratio.Rat) int {
 	return r.cut(x).middle().Order(x)
 }

@@ -389,6 +389,19 @@ func TestSpansThatEndAtAnotherRoot(t *testing.T) { // H2: the ends are where fra
 	}
 }
 
+func TestCut(t *testing.T) { // H1: what is cut off is never where the root is
+	r := rootsOfText(t, "x^3-2x", 3)[2]
+	r.low, r.high, r.sign = rat(t, "1"), rat(t, "2"), 1
+	for _, c := range []struct{ x, low, high string }{
+		{"-3", "1", "2"}, {"-1", "1", "2"}, {"1", "1", "2"}, {"5/4", "5/4", "2"}, {"3/2", "1", "3/2"}, {"2", "1", "2"}, {"3", "1", "2"},
+	} {
+		half := r.cut(rat(t, c.x))
+		if half.low.Text() != c.low || half.high.Text() != c.high || half.sign != 1 {
+			t.Errorf("H1: cut at %s: from %s to %s", c.x, half.low.Text(), half.high.Text())
+		}
+	}
+}
+
 func TestHalvesAreOtherValues(t *testing.T) { // G1, H1
 	for _, s := range []string{"x^2-2", "x^3-3x+1", "1000000x^3-1000001x^2-2000000x+2000002"} {
 		for i, r := range Roots(read(t, s)) {

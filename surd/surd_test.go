@@ -300,37 +300,41 @@ func withWord(t *testing.T, w word) {
 	t.Cleanup(func() { words = all })
 }
 
-func TestSoManyGoroutines(t *testing.T) { // K2: no line is answered until as many as there are workers have been taken
-	for workers := 1; workers <= 16; workers++ {
-		var taken atomic.Int64
-		open := make(chan struct{})
-		withWord(t, word{"WAIT" + strconv.Itoa(workers), 1, func(left *[]string) string {
-			taken.Add(1)
-			<-open
-			return next(left, itself)
-		}})
-		lines := slices.Repeat([]string{"WAIT" + strconv.Itoa(workers) + " x"}, 3*workers)
-		done := make(chan []string)
-		go func() {
-			l, _ := Run(lines, workers)
-			done <- l
-		}()
-		if !soon(func() bool { return taken.Load() >= int64(workers) }) {
-			t.Errorf("K2: %d workers take %d lines", workers, taken.Load())
-		}
-		time.Sleep(5 * time.Millisecond) // for one worker too many, if there is one
-		if n := taken.Load(); n > int64(workers) {
-			t.Errorf("K2: %d workers take %d lines at a time", workers, n)
-		}
-		select {
-		case <-done:
-			t.Errorf("K2: %d workers: Run answers ahead of the lines", workers)
-		default:
-		}
-		close(open)
-		if l := <-done; !slices.Equal(l, slices.Repeat([]string{"x"}, 3*workers)) {
-			t.Errorf("K2: %d workers: %q", workers, l)
-		}
+func TestSoManyGoroutines(t *testing.T) { // K2
+	for workers := 1; workers <= 16 && !t.Failed(); workers++ {
+		checkWorkers(t, workers)
+	}
+}
+
+// checkWorkers lets no line be answered until as many as there are workers have been taken.
+func checkWorkers(t *testing.T, workers int) {
+	t.Helper()
+	var taken atomic.Int64
+	open := make(chan struct{})
+	name := "WAIT" + strconv.Itoa(workers)
+	withWord(t, word{name, 1, func(left *[]string) string {
+		taken.Add(1)
+		<-open
+		return next(left, itself)
+	}})
+	done := make(chan []string, 1)
+	go func() {
+		l, _ := Run(slices.Repeat([]string{name + " x"}, 3*workers), workers)
+		done <- l
+	}()
+	if !soon(func() bool { return taken.Load() >= int64(workers) }) {
+		t.Errorf("K2: %d workers take %d lines", workers, taken.Load())
+	}
+	time.Sleep(5 * time.Millisecond) // for one worker too many, if there is one
+	if n := taken.Load(); n > int64(workers) {
+		t.Errorf("K2: %d workers take %d lines at a time", workers, n)
+	}
+	if len(done) > 0 {
+		t.Errorf("K2: %d workers: Run answers ahead of the lines", workers)
+	}
+	close(open)
+	if l := <-done; !slices.Equal(l, slices.Repeat([]string{"x"}, 3*workers)) {
+		t.Errorf("K2: %d workers: %q", workers, l)
 	}
 }
 
